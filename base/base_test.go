@@ -255,6 +255,27 @@ func TestMuch(t *testing.T) {
 	tells(t, "within it, many times", Within(g, slices.Repeat(want, 4000)), ends...)
 }
 
+// P1: ladders end, of two that always have both ahead of them behind them: there are more ways down than can be walked one by one.
+func TestLadder(t *testing.T) {
+	g := graphOf(t, of(9, 1))
+	put(t, g, of(2, 1), nil, of(9, 1))
+	put(t, g, of(3, 1), nil)
+	last := dotsIn(of(2, 1))
+	for n := range uint64(98) {
+		put(t, g, of(0, n+1), nil, last...)
+		put(t, g, of(1, n+1), nil, last...)
+		last = dotsIn(of(0, n+1), of(1, n+1))
+	}
+	put(t, g, of(0, 99), nil, append(last, of(3, 1))...)
+	tells(t, "of both ends", Of(g, dotsIn(of(0, 98)), of(1, 98)), of(0, 97), of(1, 97))
+	tells(t, "of the foot and an end", Of(g, dotsIn(of(2, 1)), of(1, 98)), of(2, 1))
+	tells(t, "of an end and the foot", Of(g, dotsIn(of(1, 98)), of(2, 1)), of(2, 1))
+	tells(t, "of what is beside and an end", Of(g, dotsIn(of(3, 1)), of(1, 98)))
+	tells(t, "of an end and what is beside", Of(g, dotsIn(of(1, 98)), of(3, 1)))
+	tells(t, "of the foot, what is beside, and what joins all", Of(g, dotsIn(of(2, 1), of(3, 1)), of(0, 99)), of(2, 1), of(3, 1))
+	tells(t, "within all", Within(g, g.VV()), of(0, 99))
+}
+
 // P13.1, P13.2, Rules: of a graph that is not there, or was not made, nothing.
 func TestNotMade(t *testing.T) {
 	for _, g := range []*graph.Graph{nil, {}, new(graph.Graph)} {
